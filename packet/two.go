@@ -36,14 +36,17 @@ func Same(a, b api.Packet) bool {
 
 // Copy tells the same packet in new memory.
 func Copy(p api.Packet) api.Packet {
-	p.Will.Payload = slices.Clone(p.Will.Payload)
-	p.Pass = slices.Clone(p.Pass)
-	p.Msg.Payload = slices.Clone(p.Msg.Payload)
-	p.Asks = slices.Clone(p.Asks)
-	p.Codes = slices.Clone(p.Codes)
-	p.Filters = slices.Clone(p.Filters)
+	p.Will.Payload = renewed(p.Will.Payload)
+	p.Pass = renewed(p.Pass)
+	p.Msg.Payload = renewed(p.Msg.Payload)
+	p.Asks = renewed(p.Asks)
+	p.Codes = renewed(p.Codes)
+	p.Filters = renewed(p.Filters)
 	return p
 }
+
+// renewed answers a list in new memory; slices.Clone would hold an empty one to its old place.
+func renewed[T any](l []T) []T { return append([]T(nil), l...) }
 
 func sameMessage(a, b api.Message) bool {
 	return headingOf(a) == headingOf(b) && bytes.Equal(a.Payload, b.Payload)
