@@ -255,6 +255,7 @@ func TestSameCalls(t *testing.T) {
 		keys := shuffled(r, fewKeys())[:2+life%8]
 		for range 150 {
 			f.step(r, few, some, keys)
+			f.shapes()
 		}
 		f.hold(some, few)
 	}
