@@ -214,6 +214,9 @@ func TestImageThatIsHandedIn(t *testing.T) {
 	}
 }
 
+// rough: by how many bytes what held tells may be wrong: some garbage of others is gone only at a later reading.
+const rough = 1 << 20
+
 // held tells how many bytes the program has, garbage aside.
 func held() int {
 	var s runtime.MemStats
@@ -223,10 +226,10 @@ func held() int {
 	return int(s.HeapAlloc)
 }
 
-// small holds that a window keeps less than a mebibyte more than was there before.
+// small holds that a window keeps nothing to speak of.
 func small(t *testing.T, why string, before int, w *window.Window) {
 	t.Helper()
-	if n := held() - before; n > 1<<20 {
+	if n := held() - before; n > rough {
 		t.Errorf("%s: %d bytes are kept", why, n)
 	}
 	runtime.KeepAlive(w)
@@ -244,13 +247,13 @@ func TestMessagesAreForgotten(t *testing.T) {
 	for i := range 2 * n {
 		w.Send(great(2 - i%n/(n/2)))
 	}
-	if kept := held() - before; kept < n<<20 {
+	if kept := held() - before; kept < n<<20-rough {
 		t.Fatalf("P12.3: %d bytes are kept of %d messages", kept, n)
 	}
 	for id := 1; id <= n/2; id++ {
 		w.Ack(api.Pubrec, id)
 	}
-	if kept := held() - before; kept > (n/2+1)<<20 {
+	if kept := held() - before; kept > n/2<<20+rough {
 		t.Errorf("P12.4: a released message is kept: %d bytes", kept)
 	}
 	for id := 1; id <= n/2; id++ {
@@ -278,7 +281,7 @@ func TestLineForgets(t *testing.T) {
 	w.Up()
 	for id := 1; id < n; id++ {
 		w.Ack(api.Puback, id)
-		if kept := held() - before; kept > (n-id+1)<<20 {
+		if kept := held() - before; kept > (n-id)<<20+rough {
 			t.Fatalf("P12.4: %d bytes are kept of %d messages", kept, w.Flying()+w.Waiting())
 		}
 	}
